@@ -144,6 +144,11 @@ func SumAmounts(list []Amount) (Amount, bool) {
 	if len(list) > maxSummed {
 		return Amount{}, false
 	}
+	return addUp(list)
+}
+
+// addUp is SumAmounts for a list of any length.
+func addUp(list []Amount) (Amount, bool) {
 	sum := whole(0)
 	for _, a := range list {
 		next, ok := AddAmounts(sum, a)

@@ -3,6 +3,7 @@ package tests
 import (
 	"math"
 	"math/big"
+	"slices"
 	"testing"
 
 	"loop.example/g01258/impl"
@@ -78,6 +79,13 @@ func amountOf(r *big.Rat) (amount, bool) {
 func expect[T comparable](t *testing.T, what string, got T, ok bool, want T, wantOk bool) {
 	t.Helper()
 	if got != want || ok != wantOk {
+		t.Errorf("%s: got %v, %v; want %v, %v", what, got, ok, want, wantOk)
+	}
+}
+
+func expectList[T comparable](t *testing.T, what string, got []T, ok bool, want []T, wantOk bool) {
+	t.Helper()
+	if !slices.Equal(got, want) || ok != wantOk {
 		t.Errorf("%s: got %v, %v; want %v, %v", what, got, ok, want, wantOk)
 	}
 }
